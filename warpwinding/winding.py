@@ -1,0 +1,23 @@
+"""One section, wound from the first pegs of a rack."""
+
+
+def can_be_wound(length, left, peg_count):
+    """Whether a section of this length can be wound, with so many threads left and so many pegs."""
+    return 1 <= length and length <= left and length <= peg_count
+
+
+def colours_wanted(section, turned):
+    """The colours that the first pegs must have for these threads, from peg 0 on."""
+    if turned == 1:
+        return tuple(reversed(section))
+    return section
+
+
+def bobbins_put_on(pegs, wanted):
+    """How many of the first pegs haven't the colour that is wanted there."""
+    return len([colour for peg, colour in zip(pegs, wanted) if peg != colour])
+
+
+def pegs_after(pegs, wanted):
+    """The rack once the wanted colours are on its first pegs."""
+    return wanted + pegs[len(wanted):]
