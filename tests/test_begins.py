@@ -1,8 +1,6 @@
 import unittest
 
-from tests.lines import LARGEST, asked, begins, best, best_answer, check, last, threads
-from warpwinding import calls
-from warpwinding.warp import Warp
+from tests.lines import LARGEST, asked, begins, best, best_answer, bobbins_on, check, last, rack, rack_answer, threads
 
 REFUSED = [0, 5, LARGEST]
 
@@ -49,19 +47,13 @@ class Begins(unittest.TestCase):
 
     def test_the_rack_is_empty_after_it(self):
         for pegs in (1, 2, 3, 4):
-            warp = Warp()
-            warp.pegs = (1, 2)
-            warp.threads = (3,)
-            self.assertEqual(calls.begins(warp, pegs), [0])
-            self.assertEqual((warp.pegs, warp.threads), ((0,) * pegs, ()))
+            found = asked(*bobbins_on(2, 1, 2), threads(3), begins(pegs), rack())
+            self.assertEqual(found[-2:], [[0], rack_answer(0, *[0] * pegs)])
 
     def test_bobbins_stay_on_the_rack_after_a_refusal(self):
         for pegs in REFUSED:
-            warp = Warp()
-            warp.pegs = (1, 2)
-            warp.threads = (3,)
-            self.assertEqual(calls.begins(warp, pegs), [-1])
-            self.assertEqual((warp.pegs, warp.threads), ((1, 2), (3,)))
+            found = asked(*bobbins_on(2, 1, 2), threads(3), begins(pegs), rack())
+            self.assertEqual(found[-2:], [[-1], rack_answer(1, 1, 2)])
 
 
 if __name__ == "__main__":

@@ -2,10 +2,8 @@ import itertools
 import random
 import unittest
 
-from tests.lines import asked, begins, best, best_answer, check, last, searched, searched_answer, threads
-from warpwinding import calls
-from warpwinding.plans import best_way
-from warpwinding.warp import Warp
+from tests.lines import (asked, begins, best, best_answer, bobbins_on, check, last, rack, rack_answer, searched_answer,
+                         threads)
 
 
 class Best(unittest.TestCase):
@@ -48,8 +46,8 @@ class Best(unittest.TestCase):
         self.assertEqual(last(begins(4), threads(1, 2, 3, 4), best()), best_answer(4, 1, 2, [4], [0]))
 
     def test_straight_and_turned_are_two_plans_though_they_wind_the_same(self):
-        way = best_way((1, 2, 1), (1, 2, 1))
-        self.assertEqual((way.bobbins, way.sections, way.plans), (0, ((3, 0),), 2))
+        start = bobbins_on(3, 1, 2, 1)
+        self.assertEqual(last(*start, threads(1, 2, 1), best()), best_answer(0, 1, 2, [3], [0]))
 
     def test_a_single_thread_is_never_turned(self):
         for colours in itertools.product((1, 2), repeat=5):
@@ -68,13 +66,12 @@ class Best(unittest.TestCase):
         self.assertEqual(found[6], [3])
 
     def test_a_rack_with_bobbins_is_used_and_stays(self):
-        warp = Warp()
-        warp.pegs = (2, 1, 5)
-        warp.threads = (1, 2, 5)
-        for turn in range(2):
-            self.assertEqual(calls.best(warp), searched_answer((2, 1, 5), (1, 2, 5)))
-            self.assertEqual(calls.best(warp), best_answer(1, 2, 1, [2, 1], [1, 0]))
-            self.assertEqual((warp.pegs, warp.threads), ((2, 1, 5), (1, 2, 5)))
+        start = [*bobbins_on(3, 2, 1, 5), threads(1, 2, 5)]
+        found = asked(*start, rack(), best(), best(), rack())
+        self.assertEqual(found[-3], best_answer(1, 2, 1, [2, 1], [1, 0]))
+        self.assertEqual(found[-3], searched_answer((2, 1, 5), (1, 2, 5)))
+        self.assertEqual(found[-2], found[-3])
+        self.assertEqual([found[-4], found[-1]], [rack_answer(3, 2, 1, 5)] * 2)
 
     def test_asked_sixty_times(self):
         colours = [1, 2, 3, 4, 5, 6, 7, 8, 9, 1, 2, 3]
@@ -108,11 +105,11 @@ class AgainstAPlainSearch(unittest.TestCase):
     def test_from_racks_with_bobbins(self):
         chance = random.Random(9)
         for turn in range(300):
-            rack = tuple([chance.randint(0, 3) for peg in range(1 + turn % 4)])
-            colours = tuple([chance.randint(1, 3) for thread in range(chance.randint(0, 7))])
-            way = best_way(rack, colours)
-            found = (way.bobbins, len(way.sections), way.plans, list(way.sections))
-            self.assertEqual(found, searched(rack, colours), (rack, colours))
+            pegs = 1 + turn % 4
+            first = [chance.randint(1, 3) for peg in range(chance.randint(0, pegs))]
+            row = [chance.randint(1, 3) for thread in range(chance.randint(0, 7))]
+            found = last(*bobbins_on(pegs, *first), threads(*row), best())
+            self.assertEqual(found, searched_answer(first + [0] * (pegs - len(first)), row), (pegs, first, row))
 
     def test_check_agrees_with_best(self):
         chance = random.Random(10)

@@ -1,9 +1,8 @@
 import random
 import unittest
 
-from tests.lines import LARGEST, all_plans, asked, begins, best, bobbins_of, check, last, threads
-from warpwinding import calls
-from warpwinding.warp import Warp
+from tests.lines import (LARGEST, all_plans, asked, begins, best, bobbins_of, bobbins_on, check, last, rack,
+                         rack_answer, threads)
 
 
 def unwindable(section):
@@ -100,13 +99,11 @@ class Check(unittest.TestCase):
             self.assertEqual(found[7], [5])
 
     def test_a_rack_with_bobbins(self):
-        warp = Warp()
-        warp.pegs = (2, 1, 5)
-        warp.threads = (1, 2, 5, 5)
-        for sections, expected in [([2, 1, 1, 0, 1, 1], [1]), ([3, 0, 1, 0], [3]), ([3, 1, 1, 0], [3]),
-                                   ([2, 1], left(2)), ([2, 1, 3, 0], unwindable(1))]:
-            self.assertEqual(calls.check(warp, sections), expected)
-            self.assertEqual((warp.pegs, warp.threads), ((2, 1, 5), (1, 2, 5, 5)))
+        start = [*bobbins_on(3, 2, 1, 5), threads(1, 2, 5, 5)]
+        for sections, expected in [(((2, 1), (1, 0), (1, 1)), [1]), (((3, 0), (1, 0)), [3]), (((3, 1), (1, 0)), [3]),
+                                   (((2, 1),), left(2)), (((2, 1), (3, 0)), unwindable(1))]:
+            found = asked(*start, check(*sections), check(*sections), rack())
+            self.assertEqual(found[-3:], [expected, expected, rack_answer(4, 2, 1, 5)])
 
 
 if __name__ == "__main__":

@@ -1,6 +1,8 @@
+import contextlib
+import io
 import unittest
 
-from tests.lines import begins, best, check, line, threads
+from tests.lines import begins, best, check, colours, line, rack, threads, wind
 from warpwinding.rack import answers
 
 
@@ -15,7 +17,8 @@ class Unchanging(list):
 
 
 WHOLE = line(begins(2), threads(1, 2, 2, 1), best(), check((2, 0), (2, 1)), check((2, 0)), check((3, 0)),
-             begins(9), threads(0), threads(*[1] * 20), threads(), check())
+             begins(9), threads(0), threads(*[1] * 20), threads(), check(), rack(), colours(), wind(3, 0), wind(2, 1),
+             rack(), colours(), best(), wind(2, 0), rack(), colours())
 WHOLE_ANSWERS = [
     1, 0,
     1, 4,
@@ -28,6 +31,16 @@ WHOLE_ANSWERS = [
     1, -5,
     1, 4,
     3, -4, 1, 4,
+    4, 4, 2, 0, 0,
+    7, 3, 2, 1, 2, 2, 2, 2,
+    1, -6,
+    1, 2,
+    4, 2, 2, 2, 1,
+    7, 2, 2, 1, 1, 2, 2, 1,
+    8, 0, 2, 1, 1, 1, 2, 1, 0,
+    1, 0,
+    4, 0, 2, 2, 1,
+    1, 0,
 ]
 
 
@@ -40,6 +53,9 @@ class Interface(unittest.TestCase):
         self.assertEqual(answers([2]), [6, 0, 2, 0, 1, 0, 0])
         self.assertEqual(answers([3, 0]), [1, 0])
         self.assertEqual(answers([3, 2, 1, 0]), [3, -6, 1, 0])
+        self.assertEqual(answers([4, 1, 0]), [1, -6])
+        self.assertEqual(answers([5]), [3, 0, 1, 0])
+        self.assertEqual(answers([6]), [1, 0])
 
     def test_several_calls_of_one_line(self):
         self.assertEqual(answers(list(WHOLE)), WHOLE_ANSWERS)
@@ -47,10 +63,14 @@ class Interface(unittest.TestCase):
     def test_sixty_calls(self):
         self.assertEqual(answers([1, 0] * 60), [1, 0] * 60)
         self.assertEqual(answers([2] * 60), [6, 0, 2, 0, 1, 0, 0] * 60)
+        self.assertEqual(answers([4, 1, 1] * 60), [1, -6] * 60)
+        self.assertEqual(answers([5] * 60), [3, 0, 1, 0] * 60)
+        self.assertEqual(answers([6] * 60), [1, 0] * 60)
 
-    def test_numbers_of_a_row_are_not_taken_for_calls(self):
+    def test_numbers_of_a_call_are_not_taken_for_calls(self):
         self.assertEqual(answers([1, 3, 2, 2, 2, 1, 0]), [1, 3, 1, 3])
         self.assertEqual(answers([3, 4, 2, 0, 2, 1, 1, 0]), [3, -6, 1, 0, 1, 0])
+        self.assertEqual(answers([1, 2, 5, 6, 4, 1, 1, 4, 5, 0, 6]), [1, 2, 1, 1, 1, -6, 4, 1, 2, 6, 1])
 
     def test_what_is_handed_in_stays_the_same(self):
         handed = list(WHOLE)
@@ -61,7 +81,8 @@ class Interface(unittest.TestCase):
         self.assertEqual(answers(Unchanging(WHOLE)), WHOLE_ANSWERS)
 
     def test_lines_know_nothing_of_each_other(self):
-        answers(line(begins(4), threads(1, 2, 3)))
+        answers(line(begins(4), threads(1, 2, 3), wind(2, 0)))
+        self.assertEqual(answers(line(rack(), colours(), wind(1, 0))), [3, 0, 1, 0, 1, 0, 1, -6])
         self.assertEqual(answers(line(threads(), check(), best())), [1, 0, 1, 0, 6, 0, 2, 0, 1, 0, 0])
         self.assertEqual(answers(line(threads(5, 6), check((2, 0)))), [1, 2, 3, -6, 1, 0])
         self.assertEqual(answers(WHOLE), answers(WHOLE))
@@ -69,6 +90,11 @@ class Interface(unittest.TestCase):
     def test_a_list_given_back_is_not_kept(self):
         answers(WHOLE).clear()
         self.assertEqual(answers(WHOLE), WHOLE_ANSWERS)
+
+    def test_nothing_is_printed(self):
+        with contextlib.redirect_stdout(io.StringIO()) as out, contextlib.redirect_stderr(io.StringIO()) as err:
+            answers(WHOLE)
+        self.assertEqual(out.getvalue() + err.getvalue(), "")
 
     def test_whole_numbers_alone(self):
         given = answers(WHOLE)

@@ -1,7 +1,7 @@
 """The calls about one warp: each changes it if it must, and gives back the numbers answered."""
 
 from warpwinding.plans import best_way
-from warpwinding.winding import bobbins_put_on, can_be_wound, colours_wanted, pegs_after
+from warpwinding.warp import Warp
 
 MOST_PEGS = 4
 MOST_COLOURS = 9
@@ -18,6 +18,11 @@ def listed(numbers):
     return [len(numbers)] + numbers
 
 
+def run_count(row):
+    """How many runs a row has: neighbours that are the same are one run."""
+    return len([place for place in range(len(row)) if place == 0 or row[place] != row[place - 1]])
+
+
 def begins(warp, pegs):
     if pegs < 1 or pegs > MOST_PEGS:
         return [OUT_OF_RANGE]
@@ -26,12 +31,12 @@ def begins(warp, pegs):
     return [0]
 
 
-def threads(warp, colours):
-    if any([colour < 1 or colour > MOST_COLOURS for colour in colours]):
+def threads(warp, added):
+    if any([colour < 1 or colour > MOST_COLOURS for colour in added]):
         return [OUT_OF_RANGE]
-    if len(warp.threads) + len(colours) > MOST_THREADS:
+    if len(warp.threads) + len(added) > MOST_THREADS:
         return [TOO_MANY_THREADS]
-    warp.threads = warp.threads + tuple(colours)
+    warp.threads = warp.threads + tuple(added)
     return [len(warp.threads)]
 
 
@@ -43,18 +48,31 @@ def best(warp):
 
 
 def check(warp, sections):
-    pegs = warp.pegs
-    left = warp.threads
+    # The sections are tried on a warp of its own: the one that is asked about stays as it is.
+    trial = Warp(warp.pegs, warp.threads)
     bobbins = 0
     for section in range(len(sections) // 2):
         length = sections[2 * section]
-        turned = sections[2 * section + 1]
-        if not can_be_wound(length, len(left), len(pegs)):
+        if not trial.can_wind(length):
             return [NOT_TO_BE_WOUND] + listed([section])
-        wanted = colours_wanted(left[:length], turned)
-        bobbins = bobbins + bobbins_put_on(pegs, wanted)
-        pegs = pegs_after(pegs, wanted)
-        left = left[length:]
-    if len(left) > 0:
-        return [THREADS_LEFT] + listed([len(left)])
+        bobbins = bobbins + trial.wind_section(length, sections[2 * section + 1])
+    if len(trial.threads) > 0:
+        return [THREADS_LEFT] + listed([len(trial.threads)])
     return [bobbins]
+
+
+def wind(warp, length, turned):
+    if not warp.can_wind(length):
+        return [NOT_TO_BE_WOUND]
+    return [warp.wind_section(length, turned)]
+
+
+def rack_now(warp):
+    return [len(warp.threads)] + listed(list(warp.pegs))
+
+
+def colours(warp):
+    answered = [run_count(warp.threads)]
+    for colour in sorted(set(warp.threads)):
+        answered = answered + listed([colour, warp.threads.count(colour)])
+    return answered

@@ -1,6 +1,6 @@
 """The calls on one warp, read from one list of numbers and answered in another."""
 
-from warpwinding.calls import begins, best, check, threads
+from warpwinding.calls import begins, best, check, colours, rack_now, threads, wind
 from warpwinding.warp import Warp
 
 BEGINS = 0
@@ -9,11 +9,6 @@ BEST = 2
 CHECK = 3
 WIND = 4
 RACK = 5
-COLOURS = 6
-
-
-class CallNotBuilt(NotImplementedError):
-    """A call that the program can read, but not answer yet."""
 
 
 def call_size(calls, start):
@@ -39,13 +34,17 @@ def answer(warp, numbers):
         return best(warp)
     if call == CHECK:
         return check(warp, numbers[2:])
-    # The place of WIND, RACK and COLOURS.
-    raise CallNotBuilt(f"call {call} is not built yet")
+    if call == WIND:
+        return wind(warp, numbers[1], numbers[2])
+    if call == RACK:
+        return rack_now(warp)
+    # Of the seven calls, colours alone is left, and no other number is handed in.
+    return colours(warp)
 
 
 def answers(calls):
     """For each call, in order: how many numbers are answered, then these."""
-    warp = Warp()
+    warp = Warp((0,), ())
     given = []
     start = 0
     while start < len(calls):

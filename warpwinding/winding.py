@@ -1,11 +1,6 @@
 """One section, wound from the first pegs of a rack."""
 
 
-def can_be_wound(length, left, peg_count):
-    """Whether a section of this length can be wound, with so many threads left and so many pegs."""
-    return 1 <= length and length <= left and length <= peg_count
-
-
 def colours_wanted(section, turned):
     """The colours that the first pegs must have for these threads, from peg 0 on."""
     if turned == 1:
