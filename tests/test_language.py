@@ -1,8 +1,10 @@
-"""The rules L1 to L28 of the small part of Python that the package keeps to.
+"""The small part of Python that the package keeps to, as far as a look at its files can tell.
 
 Where the package has no need of something that a rule allows, what is looked for here is
 the shorter rule without it: no annotation, no list or dict at a file's top, no error of
-Python's own taken but those that may be taken anywhere.
+Python's own taken but those that may be taken anywhere. L9 is held by L2 and L8 (nothing
+is there to read or print with), L11's sets by L24. Not looked for: how deep a function
+calls itself (L11), and the finer points of L19 and L28, of which the package has no use.
 """
 
 import ast
